@@ -1,0 +1,1 @@
+"""Systems of lenses as texts."""
