@@ -8,7 +8,7 @@ from lensrows.tokens import END, NAME, POINTED, WHOLE, token_from
 
 
 class Reader:
-    """Reads a text into a system.
+    """Reads a text into a system, or an element for one.
 
     A token is drawn only when it is asked for: what's wrong with the ones before it has been told by then,
     so the first fault by place is the first that is met.
@@ -127,7 +127,8 @@ class Reader:
         self.judge(value != ZERO, (";",))
         return value
 
-    def read_thing(self):
+    def take_thing(self):
+        """An element that can stand behind the system's others; it isn't among them yet."""
         word = self.take_among(KIND_WORDS)
         if len(self.system.things) == MOST_THINGS:
             raise Fault(TOO_MANY, word.place)
@@ -143,11 +144,11 @@ class Reader:
             thing.conic = self.take_conic()
         thing.reach = self.take_reach()
         self.take(";")
-        self.system.things.append(thing)
+        return thing
 
     def read_things(self):
         while self.ahead().kind != END:
-            self.read_thing()
+            self.system.things.append(self.take_thing())
 
 
 def system_of(text):
@@ -157,3 +158,11 @@ def system_of(text):
     reader.read_start()
     reader.read_things()
     return reader.system
+
+
+def thing_of(text, system):
+    """The one element that a text tells behind a system's others; a Fault is raised if it doesn't tell one."""
+    reader = Reader(text, system)
+    thing = reader.take_thing()
+    reader.take(END)
+    return thing

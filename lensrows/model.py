@@ -8,6 +8,7 @@ MOST_THINGS = 16
 # The words of an element's kinds: the kind's number is the word's place here.
 KIND_WORDS = ("surface", "mirror", "stop")
 SURFACE = 0
+MIRROR = 1
 STOP = 2
 
 

@@ -2,6 +2,9 @@
 
 ZERO = (0, 1)
 
+# Texts have numbers below this, so what's kept has no longer ones either.
+TOO_LONG_FROM = 1000000000000000000
+
 
 def common_divisor(a, b):
     """The greatest whole number that divides both, neither of them below 0."""
@@ -27,3 +30,15 @@ def inverse(rational):
     if rational[0] < 0:
         return (-rational[1], -rational[0])
     return (rational[1], rational[0])
+
+
+def plus(one, other):
+    return quotient(one[0] * other[1] + other[0] * one[1], one[1] * other[1])
+
+
+def times(one, other):
+    return quotient(one[0] * other[0], one[1] * other[1])
+
+
+def is_too_long(rational):
+    return abs(rational[0]) >= TOO_LONG_FROM or rational[1] >= TOO_LONG_FROM

@@ -1,9 +1,12 @@
 """The calls on one object, which keeps a system or none."""
 
+from lensrows.edits import drop, put, scale, set_number, turn_round
 from lensrows.faults import Fault
 from lensrows.grammar import system_of
 from lensrows.model import place_of_name
 from lensrows.printing import one_form
+from lensrows.refusals import FAULTY, MOST_BYTES, NOT_FOUND, NO_SYSTEM, OUT_OF_BOUNDS
+from lensrows.world import indices_beside, place_of
 
 READ = 0
 FORGET = 1
@@ -11,19 +14,19 @@ PRINT = 2
 COUNT = 3
 NAME = 4
 FIND = 5
+LOOK = 6
+INDEX = 7
+THING = 8
+PUT = 9
+DROP = 10
+SET = 11
+SCALE = 12
 
-# How many whole numbers each call has ahead of its row, and whether it has one, by the call's number.
-WHOLES = (0, 0, 0, 0, 2, 1, 1)
-WITH_ROW = (True, False, False, False, False, True, False)
+# How many whole numbers each call has, by the call's number.
+WHOLES = (0, 0, 0, 0, 2, 1, 1, 1, 1, 1, 1, 4, 2, 0)
 
 GLASSES = 0
 THINGS = 1
-
-OUT_OF_BOUNDS = -1
-NO_SYSTEM = -2
-NOT_FOUND = -4
-FAULTY = -7
-MOST_BYTES = 16384
 
 
 class Kept:
@@ -103,18 +106,35 @@ def find(system, sort, name):
     return [NOT_FOUND] if number < 0 else [0, number]
 
 
-def look(system, number):
-    if number >= len(system.things):
-        return [OUT_OF_BOUNDS]
-    thing = system.things[number]
-    told = [0, thing.kind, thing.glass]
-    for value in (thing.gap, thing.curve, thing.conic, thing.reach):
+def fractions_told(values):
+    told = []
+    for value in values:
         told.extend(value)
     return told
 
 
-def answer_from(system, call, wholes, row):
-    """What is answered to a call that needs a system."""
+def look(system, number):
+    if number >= len(system.things):
+        return [OUT_OF_BOUNDS]
+    thing = system.things[number]
+    return [0, thing.kind, thing.glass] + fractions_told((thing.gap, thing.curve, thing.conic, thing.reach))
+
+
+def index_told(system, number):
+    if number >= len(system.glasses):
+        return [OUT_OF_BOUNDS]
+    return [0] + fractions_told(system.glasses[number].indices)
+
+
+def thing_told(system, number):
+    if number >= len(system.things):
+        return [OUT_OF_BOUNDS]
+    place = place_of(system.things, number)
+    return [0, system.things[number].kind] + fractions_told([place] + indices_beside(system, number))
+
+
+def asked(system, call, wholes, row):
+    """What is answered to a call that changes nothing."""
     if call == PRINT:
         return bytes_told(one_form(system))
     if call == COUNT:
@@ -123,21 +143,44 @@ def answer_from(system, call, wholes, row):
         return name_told(system, wholes[0], wholes[1])
     if call == FIND:
         return find(system, wholes[0], row)
-    return look(system, wholes[0])
+    if call == LOOK:
+        return look(system, wholes[0])
+    if call == INDEX:
+        return index_told(system, wholes[0])
+    return thing_told(system, wholes[0])
+
+
+def edited(system, call, wholes, row):
+    """What is answered to a call that changes the system."""
+    if call == PUT:
+        return put(system, wholes[0], row)
+    if call == DROP:
+        return drop(system, wholes[0])
+    if call == SET:
+        return set_number(system, wholes[0], wholes[1], wholes[2], wholes[3])
+    if call == SCALE:
+        return scale(system, wholes[0], wholes[1])
+    return turn_round(system)
+
+
+def has_row(call):
+    return call in (READ, FIND, PUT)
 
 
 def next_answer(kept, calls):
     """What is answered to the call that stands next."""
     call = calls.next_number()
     wholes = calls.next_numbers(WHOLES[call])
-    row = calls.next_row() if WITH_ROW[call] else []
+    row = calls.next_row() if has_row(call) else []
     if call == READ:
         return read(kept, row)
     if call == FORGET:
         return forget(kept)
     if kept.system is None:
         return [NO_SYSTEM]
-    return answer_from(kept.system, call, wholes, row)
+    if call <= THING:
+        return asked(kept.system, call, wholes, row)
+    return edited(kept.system, call, wholes, row)
 
 
 def answers(calls):

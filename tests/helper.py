@@ -1,7 +1,8 @@
-"""What the tests share: lists of calls, their answers, and a second reader of texts to compare with.
+"""What the tests share: lists of calls, their answers, and a second reader and keeper of systems to compare with.
 
 The second reader works in another way than the program: regular expressions for the tokens, derivatives
 of the grammar for what can stand, all faults gathered and the least taken, Python's fractions for numbers.
+The second keeper has rows of texts and fractions, and turns the world round, not the rows.
 """
 
 import random
@@ -48,6 +49,35 @@ def look(i):
     return [6, i]
 
 
+def index(g):
+    return [7, g]
+
+
+def thing(i):
+    return [8, i]
+
+
+def put(i, text):
+    row = as_bytes(text)
+    return [9, i, len(row)] + row
+
+
+def drop(i):
+    return [10, i]
+
+
+def set_to(i, what, p, q):
+    return [11, i, what, p, q]
+
+
+def scale(p, q):
+    return [12, p, q]
+
+
+def reverse():
+    return [13]
+
+
 def told(*calls):
     """The answers to these calls, a list each."""
     row = answers([number for call in calls for number in call])
@@ -64,13 +94,19 @@ def told_bytes(text):
     return [0, len(row)] + row
 
 
-def looks(text):
-    """Everything that can be asked of the system that a text tells."""
-    glasses, things = told(read(text), count())[1][1:3]
+def looks(text, *edits):
+    """Everything that can be asked of the system that a text tells, behind these edits."""
+    glasses, things = told(read(text), *edits, count())[-1][1:3]
     calls = [printed(), count()]
     calls += [name(0, i) for i in range(glasses)] + [name(1, i) for i in range(things)]
-    calls += [look(i) for i in range(things)]
-    return told(read(text), *calls)[1:]
+    calls += [index(g) for g in range(glasses)]
+    calls += [look(i) for i in range(things)] + [thing(i) for i in range(things)]
+    return told(read(text), *edits, *calls)[1 + len(edits):]
+
+
+def form_behind(text, *edits):
+    """What print answers behind these edits, as a text."""
+    return bytes(told(read(text), *edits, printed())[-1][2:]).decode()
 
 
 # The grammar, as expressions over kinds of tokens: None is what nothing matches, () the empty row.
@@ -252,14 +288,20 @@ def pair(value):
     return [value.numerator, value.denominator]
 
 
-def expected(text):
-    """The print and the looks of a text that tells a system."""
+def rows_of(text):
+    """The rows of words up to each ; in a text."""
     rows, row = [], []
     for _, _, word in tokens_of(text)[:-1]:
         row.append(word)
         if word == ";":
             rows.append(row)
             row = []
+    return rows
+
+
+def expected(text):
+    """The print and the looks of a text that tells a system."""
+    rows = rows_of(text)
     glasses = [row[1] for row in rows if row[0] == "glass"]
     form, seen = [], []
     for row in rows:
@@ -282,6 +324,146 @@ def expected(text):
             seen.append([0, KINDS.index(row[0]), glasses.index(glass) if glass else 0]
                         + pair(gap) + pair(curve) + pair(conic) + pair(clear))
     return "".join(form), seen
+
+
+class Keeper:
+    """Keeps one system, and answers the calls of numbers 2 and 6 to 13 from it."""
+
+    def __init__(self, text):
+        rows = rows_of(text)
+        self.glasses = {row[1]: [Fraction(part) for part in "".join(row[3:-1]).split(",")]
+                        for row in rows if row[0] == "glass"}
+        self.start = [row[1] for row in rows if row[0] == "start"][0]
+        self.things = [self.thing_in(row) for row in rows if row[0] in KINDS]
+
+    @staticmethod
+    def thing_in(row):
+        radius = number_in(row, "radius")
+        return {"kind": row[0], "name": row[1], "into": row[row.index("into") + 1] if "into" in row else None,
+                "numbers": [number_in(row, "after"), 1 / radius if radius else number_in(row, "curve"),
+                            number_in(row, "conic"), number_in(row, "clear")]}
+
+    def text(self):
+        lines = [f"glass {name}:{','.join(said(index) for index in indices)};" for name, indices in self.glasses.items()]
+        lines.append(f"start {self.start};")
+        for one in self.things:
+            gap, curve, conic, clear = [said(number) for number in one["numbers"]]
+            into = f"into {one['into']}" if one["into"] else ""
+            shape = "" if one["kind"] == "stop" else f"curve {curve} conic {conic}"
+            reach = f"clear {clear}" if clear != "0" else ""
+            lines.append(f"{one['kind']} {one['name']} after {gap} {into} {shape} {reach};")
+        return "\n".join(lines) + "\n"
+
+    def form(self):
+        return expected(self.text())[0]
+
+    def world(self):
+        """Of each thing its place and the signed indices before and behind it; then light's way behind all."""
+        seen, z, way, medium = [], Fraction(0), 1, self.start
+        for one in self.things:
+            z += way * one["numbers"][0]
+            before = (way, medium)
+            way = -way if one["kind"] == "mirror" else way
+            medium = one["into"] or medium
+            seen.append((z, before, (way, medium)))
+        return seen, (way, medium)
+
+    def answer(self, call):
+        """What's answered to a call that is a list of numbers."""
+        verb = {2: self.do_print, 6: self.do_look, 7: self.do_index, 8: self.do_thing, 9: self.do_put, 10: self.do_drop,
+                11: self.do_set, 12: self.do_scale, 13: self.do_reverse}[call[0]]
+        return verb(*call[1:3], call[3:]) if call[0] == 9 else verb(*call[1:])
+
+    def do_print(self):
+        return told_bytes(self.form())
+
+    def do_look(self, i):
+        return expected(self.text())[1][i] if i < len(self.things) else [-1]
+
+    def do_index(self, g):
+        if g >= len(self.glasses):
+            return [-1]
+        return [0] + [part for value in list(self.glasses.values())[g] for part in pair(value)]
+
+    def do_thing(self, i):
+        if i >= len(self.things):
+            return [-1]
+        z, before, behind_it = self.world()[0][i]
+        indices = [way * value for way, medium in (before, behind_it) for value in self.glasses[medium]]
+        return [0, KINDS.index(self.things[i]["kind"])] + [part for value in [z] + indices for part in pair(value)]
+
+    def do_put(self, i, length, row):
+        if i > len(self.things) or length > 16384:
+            return [-1]
+        text = bytes(row).decode("latin-1")
+        fault = put_fault(self.text(), text)
+        if fault is not None:
+            return [-7, *fault]
+        self.things[i:i] = [self.thing_in(rows_of(text)[0])]
+        return [0]
+
+    def do_drop(self, i):
+        if i >= len(self.things):
+            return [-1]
+        behind_it = self.things[i + 1:i + 2]
+        total = sum(one["numbers"][0] for one in self.things[i:i + 2])
+        if behind_it and is_long(total):
+            return [-6]
+        for one in behind_it:
+            one["numbers"][0] = total
+        self.things = self.things[:i] + self.things[i + 1:]
+        return [0]
+
+    def do_set(self, i, what, p, q):
+        if i not in range(len(self.things)) or what not in range(4) or q == 0:
+            return [-1]
+        if (what in (0, 3) and p < 0) or (what in (1, 2) and p != 0 and self.things[i]["kind"] == "stop"):
+            return [-5]
+        if is_long(Fraction(p, q)):
+            return [-6]
+        self.things[i]["numbers"][what] = Fraction(p, q)
+        return [0]
+
+    def do_scale(self, p, q):
+        if p <= 0 or q == 0:
+            return [-1]
+        times = Fraction(p, q)
+        factors = (times, 1 / times, 1, times)
+        scaled = [[number * factor for number, factor in zip(one["numbers"], factors)] for one in self.things]
+        if any(is_long(number) for numbers in scaled for number in numbers):
+            return [-6]
+        for one, numbers in zip(self.things, scaled):
+            one["numbers"] = numbers
+        return [0]
+
+    def do_reverse(self):
+        seen, (way, medium) = self.world()
+        self.start = medium
+        at = seen[-1][0] if seen else Fraction(0)
+        turned = []
+        for one, (z, before, _) in reversed(list(zip(self.things, seen))):
+            _, curve, conic, clear = one["numbers"]
+            turned.append({"kind": one["kind"], "name": one["name"], "into": one["into"] and before[1],
+                           "numbers": [abs(z - at), -way * curve, conic, clear]})
+            at = z
+        self.things = turned
+        return [0]
+
+
+def is_long(value):
+    return max(abs(value.numerator), value.denominator) >= 10 ** 18
+
+
+def put_fault(kept, text):
+    """The first fault of a text that is put to the system that another text tells."""
+    tokens = tokens_of(text)
+    ends = [number for number, token in enumerate(tokens) if token[1] == ";"]
+    over = tokens[ends[0] + 1] if ends else tokens[-1]
+    whole = first_fault(kept + text)
+    faults = [(whole[1] - len(kept), whole[0])] if whole else []
+    if not ends or over[1] not in ("end", "none"):
+        faults.append((over[0], 2))
+    return tuple(reversed(min(faults))) if faults else None
 
 
 class Maker:
@@ -338,6 +520,14 @@ class Maker:
             lambda: ["radius"] + self.sign() + self.number_above_zero())()
         return row + self.pick([], ["conic"] + self.sign() + self.number())
 
+    def thing_tokens(self, glasses, things):
+        """An element's tokens; its name goes to the things' names."""
+        kind = self.pick(*KINDS)
+        row = [kind, self.new_name(things), "after"] + self.number()
+        row += ["into", self.chance.choice(glasses)] if kind == "surface" else []
+        row += [] if kind == "stop" else self.shape()
+        return row + self.pick([], ["clear"] + self.number_above_zero()) + [";"]
+
     def tokens(self, most=16):
         glasses, things, row = [], [], []
         for _ in range(self.pick(1, 1, 2, 3, most)):
@@ -345,11 +535,7 @@ class Maker:
             row += self.index() + [","] + self.index() + [","] + self.index() + [";"]
         row += ["start", self.chance.choice(glasses), ";"]
         for _ in range(self.pick(0, 1, 2, 4, most)):
-            kind = self.pick(*KINDS)
-            row += [kind, self.new_name(things), "after"] + self.number()
-            row += ["into", self.chance.choice(glasses)] if kind == "surface" else []
-            row += [] if kind == "stop" else self.shape()
-            row += self.pick([], ["clear"] + self.number_above_zero()) + [";"]
+            row += self.thing_tokens(glasses, things)
         return row
 
     def laid_out(self, tokens):
@@ -363,6 +549,44 @@ class Maker:
 
     def text(self):
         return self.laid_out(self.tokens())
+
+    def put_text(self, keeper):
+        """A text with one element for a keeper's system, or with a few faults."""
+        names, glasses = [one["name"] for one in keeper.things], list(keeper.glasses)
+        row = self.thing_tokens(self.pick(glasses, glasses, glasses, ["no_glass"]), list(names))
+        if names and self.pick(True, False, False, False, False):
+            row[1] = self.pick(*names)
+        for _ in range(self.pick(0, 0, 0, 0, 1, 2)):
+            at = self.chance.randrange(len(row))
+            other = self.pick(*WORDS, "0", "0.0", "1.", "x", "/", "-", ";", "?", "a" * 33)
+            zero = "0" if row[at][0].isdigit() else row[at]
+            row[at:at + 1] = self.pick([], [row[at]] * 2, [other], [row[at], other], [zero], [zero], [zero])
+        row += self.pick([], [], [], [], [], [], ["?"], [";"], ["x"], ["stop", "new", "after", "1", ";"])
+        return self.laid_out(row)
+
+    def upper(self):
+        return self.pick(0, 1, 2, 3, 10, 10 ** 9, 10 ** 18 - 1, 10 ** 18, 2 ** 63 - 1, self.chance.randrange(2 ** 63))
+
+    def short(self, many):
+        """A number of one of so many, now and then of none."""
+        return self.pick(0, many, many + 1, 4294967295, *[self.chance.randrange(max(1, many)) for _ in range(12)])
+
+    def call(self, keeper):
+        """One of the calls that a keeper answers."""
+        many = len(keeper.things)
+        return self.pick(
+            printed,
+            lambda: look(self.short(many)),
+            lambda: index(self.short(len(keeper.glasses))),
+            lambda: thing(self.short(many)),
+            lambda: put(self.pick(self.short(many), many), self.put_text(keeper)),
+            lambda: put(self.pick(self.short(many), many), self.put_text(keeper)),
+            lambda: drop(self.short(many)),
+            lambda: set_to(self.short(many), self.pick(0, 1, 2, 3, 3, self.short(4)),
+                           self.pick(1, 1, -1) * self.upper(), self.upper()),
+            lambda: scale(self.pick(1, 1, 1, 1, -1) * self.upper(), self.upper()),
+            lambda: scale(self.pick(1, 2, 3, 10, 1000), self.pick(1, 2, 5, 10, 1000)),
+            reverse)()
 
     def akin(self, token, row):
         """Another token that can stand where this one does, though it may be told another fault."""

@@ -5,7 +5,8 @@ import sys
 import unittest
 from unittest import mock
 
-from helper import as_bytes, count, find, forget, look, looks, name, printed, read, told, told_bytes
+from helper import (Keeper, as_bytes, count, drop, find, forget, index, look, looks, name, printed, put, read, reverse,
+                    scale, set_to, thing, told, told_bytes)
 from lensrows.systems import answers
 
 TEXT = """# a triplet of sorts
@@ -35,6 +36,13 @@ stop open after 7 ;
 """
 
 OTHER = "glass a:1,1,1;glass b:2,2,2;start b;stop s after 1;"
+
+# Each of the fourteen calls, where it's answered and where it's refused.
+ALL = (count() + read(TEXT) + printed() + read("glass x") + name(0, 1) + name(2, 0) + find(1, "m") + find(1, "x") + look(4)
+       + look(7) + index(1) + index(3) + thing(5) + thing(7) + put(1, "mirror x after 1 flat;") + put(1, "stop x after 1;")
+       + put(9, "") + drop(0) + drop(7) + set_to(0, 1, -6, 4) + set_to(0, 0, -1, 1) + set_to(0, 0, 10 ** 18, 1)
+       + set_to(0, 4, 1, 1) + scale(2, 3) + scale(0, 1) + scale(10 ** 18, 1) + reverse() + printed() + thing(6) + forget()
+       + reverse() + read(OTHER) + printed())
 
 
 class Answered(unittest.TestCase):
@@ -198,20 +206,28 @@ class Interface(unittest.TestCase):
         row = as_bytes(text)
         self.assertEqual(answers([0, len(row)] + row + [2]), [2, 0, 0, len(row) + 2, 0, len(row)] + row)
 
+    def test_all_calls_are_answered_and_refused(self):
+        row = told(ALL)
+        self.assertEqual([one[0] for one in row], [
+            -2, 0, 0, -7, 0, -1, 0, -4, 0, -1, 0, -1, 0, -1, 0, -7, -1, 0, -1, 0, -5, -6, -1, 0, -1, -6, 0, 0, 0, 0, -2, 0, 0])
+        # With how many numbers each is answered.
+        self.assertEqual([len(one) for one in row if one[0] in (-1, -2, -4, -5, -6)], [1] * 14)
+        self.assertEqual([len(one) for one in row if one[0] == -7], [3, 3])
+        self.assertEqual([len(row[at]) for at in (1, 6, 8, 10, 12, 14, 17, 19, 23, 26, 28, 29)],
+                         [2, 2, 11, 7, 16, 1, 1, 1, 1, 1, 16, 1])
+
     def test_what_is_handed_in_is_as_it_was_and_a_second_time_answers_the_same(self):
-        calls = read(TEXT) + printed() + read("glass x") + name(0, 1) + find(1, "m") + look(4) + forget() + count()
-        copy = list(calls)
+        calls = list(ALL)
         first = answers(calls)
-        self.assertEqual(calls, copy)
+        self.assertEqual(calls, ALL)
         self.assertEqual(answers(calls), first)
-        self.assertEqual(calls, copy)
+        self.assertEqual(calls, ALL)
 
     def test_what_is_handed_in_is_not_changed_for_a_while_either(self):
-        calls = OnlyRead(read(TEXT) + printed() + read("glass x") + name(0, 1) + find(1, "m") + look(4) + forget())
-        self.assertEqual(answers(calls), answers(list(calls)))
+        self.assertEqual(answers(OnlyRead(ALL)), answers(list(ALL)))
 
     def test_it_prints_reads_and_imports_nothing(self):
-        calls = read(TEXT) + printed() + read("glass x") + name(0, 1) + find(1, "m") + look(4) + forget() + count()
+        calls = list(ALL)
         expected = answers(calls)
         there = set(sys.modules)
         with mock.patch.multiple(builtins, print=None, open=None, input=None, __import__=None), \
@@ -222,7 +238,8 @@ class Interface(unittest.TestCase):
 
     def test_long_inputs_are_gone_through_by_loops(self):
         long = [read("#\n" * 7000 + OTHER), read("glass " + "a" * 15000), find(1, "a" * 15000), read("1" * 15000)]
-        many = [read(OTHER) + (count() + look(0) + printed()) * 130]
+        long += [read(OTHER) + put(0, "#\n" * 7000 + "stop t after 1;"), read(OTHER) + put(1, "stop " + "a" * 15000)]
+        many = [read(OTHER) + (count() + look(0) + printed()) * 130, read(TEXT) + (thing(6) + reverse() + scale(3, 2)) * 130]
         depth = 0
         frame = sys._getframe()
         while frame is not None:
@@ -246,9 +263,12 @@ class Interface(unittest.TestCase):
     def test_nothing_is_kept_from_one_time_to_the_next(self):
         answers(read(TEXT))
         self.assertEqual(answers(count()), [1, -2])
+        answers(read(TEXT) + drop(0) + set_to(0, 0, 7, 1) + scale(2, 1) + reverse() + put(0, "stop x after 1;"))
+        self.assertEqual(answers(reverse()), [1, -2])
+        self.assertEqual(told(read(TEXT), printed())[1], told_bytes(FORM))
 
     def test_whole_numbers_and_lists_alone(self):
-        row = answers(read(TEXT) + printed() + count() + name(1, 2) + find(1, "m") + look(4) + look(9))
+        row = answers(ALL + read(TEXT) + count() + name(1, 2))
         self.assertIs(type(row), list)
         self.assertEqual({type(number) for number in row}, {int})
 
@@ -256,6 +276,35 @@ class Interface(unittest.TestCase):
         row = told(*([read(OTHER)] + [count(), look(0), forget(), read(OTHER)] * 99 + [count()]))
         self.assertEqual(row, [[0, 1]] + [[0, 2, 1, 1], [0, 2, 0, 1, 1, 0, 1, 0, 1, 0, 1], [0], [0, 1]] * 99
                          + [[0, 2, 1, 1]])
+
+    def test_four_hundred_edits(self):
+        keeper = Keeper(FORM)
+        calls = []
+        for turn in range(49):
+            calls += [put(turn % 8, f"mirror t{turn} after {turn}/7 curve 1/{turn + 1};"), set_to(turn % 7, 0, turn, 3),
+                      scale(turn % 5 + 1, turn % 3 + 1), reverse(), drop(turn % 9), thing(turn % 9), look(turn % 9), printed()]
+        calls += [scale(3, 2), scale(2, 3)] * 3 + [printed()]
+        self.assertEqual(len(calls), 399)
+        expected = [keeper.answer(call) for call in calls]
+        self.assertEqual(told(read(TEXT), *calls)[1:], expected)
+        self.assertEqual({answer[0] for answer in expected}, {0, -1})
+
+    def test_sixteen_thousand_numbers(self):
+        """As many numbers and calls as there may be, with as long a text to put as there's room for."""
+        calls = [read(TEXT)] + [thing(3), reverse()] * 199
+        room = 16000 - sum(len(call) for call in calls) - 3
+        element = "stop x after 1/2;"
+        calls.insert(1, put(7, element + "#" * (room - len(element))))
+        self.assertEqual((len(calls), sum(len(call) for call in calls)), (400, 16000))
+        keeper = Keeper(FORM)
+        self.assertEqual(told(*calls), [[0, 7]] + [keeper.answer(call) for call in calls[1:]])
+
+    def test_as_long_a_fault_as_there_is_room_for(self):
+        room = 16000 - len(read(OTHER)) - 3 - 1
+        blank = " " * (room - 1)
+        for text, answer in ((blank + "?", [-7, 1, room - 1]), (blank + "x", [-7, 2, room - 1]), (blank + " ", [-7, 2, room]),
+                             ("x" * room, [-7, 1, 0]), ("stop " + "s;" * ((room - 5) // 2), [-7, 3, 5])):
+            self.assertEqual(told(read(OTHER), put(1, text), count())[1:], [answer, [0, 2, 1, 1]])
 
 
 if __name__ == "__main__":
